@@ -1,0 +1,1 @@
+"""Folds over rows that are split among workers."""

@@ -1,0 +1,74 @@
+"""The form of the program: where the interface stands, and some rules of the code that are easy to break."""
+
+import ast
+import unittest
+from pathlib import Path
+
+from foldparts import errors, folds, ratios
+
+PACKAGE = Path(__file__).resolve().parent.parent / "foldparts"
+
+ERRORS = [
+    "InvalidText", "ZeroDenominator", "BadItem", "OtherKinds", "WrongCount", "BadPlaces", "Disputed", "Overlap", "UnknownPiece",
+    "Missing", "OrderMatters", "Stuck", "TooLarge", "UnknownKind", "TooWide", "UnknownMark", "NoObjection", "NoFold",
+]
+
+METHODS = [
+    (ratios.Ratio, ["__init__", "__add__", "__sub__", "__mul__", "__neg__", "__eq__", "__ne__", "__str__", "parse", "inverse",
+                    "is_less"]),
+    (folds.Fold, ["__call__", "__eq__", "__ne__", "__str__", "parse", "registers_after", "test_items"]),
+]
+
+
+def trees():
+    return {path: ast.parse(path.read_text()) for path in sorted(PACKAGE.glob("*.py"))}
+
+
+class Interface(unittest.TestCase):
+    def test_classes_stand_in_their_files(self):
+        for name in ["PartError", *ERRORS]:
+            self.assertEqual(getattr(errors, name).__module__, "foldparts.errors")
+        self.assertEqual(ratios.Ratio.__module__, "foldparts.ratios")
+        self.assertEqual(folds.Fold.__module__, "foldparts.folds")
+
+    def test_methods_stand_in_their_classes(self):
+        for one, names in METHODS:
+            for name in names:
+                self.assertIn(name, vars(one))
+            self.assertIsInstance(vars(one)["parse"], classmethod)
+
+
+class Form(unittest.TestCase):
+    def test_the_folder_holds_the_files_of_the_package_only(self):
+        for path in PACKAGE.iterdir():
+            self.assertTrue(path.suffix == ".py" or path.name == "__pycache__", path)
+        self.assertTrue((PACKAGE / "__init__.py").is_file())
+
+    def test_sizes_and_signs(self):
+        for path, tree in trees().items():
+            text = path.read_text()
+            self.assertTrue(all(sign == "\n" or " " <= sign <= "~" for sign in text), path)
+            self.assertLess(len(text.splitlines()), 400, path)
+            self.assertLessEqual(max(len(row) for row in text.splitlines()), 120, path)
+            for node in ast.walk(tree):
+                if isinstance(node, ast.FunctionDef):
+                    self.assertLessEqual(node.end_lineno - node.lineno + 1, 40, node.name)
+
+    def test_imports(self):
+        for path, tree in trees().items():
+            for node in ast.walk(tree):
+                self.assertNotIsInstance(node, ast.Import, path)
+                if isinstance(node, ast.ImportFrom):
+                    names = [alias.name for alias in node.names]
+                    self.assertEqual(node.level, 0, path)
+                    self.assertTrue(node.module.startswith("foldparts.") or (node.module, names) == ("math", ["gcd"]), path)
+
+    def test_no_floats_and_no_true_division(self):
+        for path, tree in trees().items():
+            for node in ast.walk(tree):
+                self.assertNotIsInstance(node, ast.Div, path)
+                self.assertFalse(isinstance(node, ast.Constant) and isinstance(node.value, float), path)
+
+
+if __name__ == "__main__":
+    unittest.main()
