@@ -1,8 +1,11 @@
 """Folds: what they are, and their results for rows of items."""
 
+from foldparts.checks import is_integer
 from foldparts.drafts import read_draft
 from foldparts.errors import BadItem
-from foldparts.sums import sum_value
+from foldparts.forms import dot, stepped, unit
+from foldparts.ratios import Ratio
+from foldparts.sums import sum_form
 
 _MOST_VALUE = 1000
 
@@ -42,16 +45,11 @@ class Fold:
 
     def __call__(self, row):
         """Return the result for a row. Raise BadItem(index) of the first element that is no item."""
-        return sum_value(self.final, self.registers_after(row), ())
+        return dot(self.final_form(), self.state_after(row))
 
     def registers_after(self, row):
         """Return the tuple of the values of the registers after a row. Raise BadItem(index)."""
-        values = [start for name, start in self.registers]
-        for index, item in enumerate(row):
-            if not self.has_item(item):
-                raise BadItem(index)
-            values = self._values_after(values, item)
-        return tuple(values)
+        return tuple(self.state_after(row)[:-1])
 
     def test_items(self):
         """Return a new list of the test items, in order."""
@@ -67,15 +65,38 @@ class Fold:
         many = [len(fields) for name, fields in self.kinds if name == kind]
         return many == [len(values)] and all([_is_field_value(value) for value in values])
 
-    def _values_after(self, values, item):
-        """Return the list of the new values of the registers after an item, from the old ones."""
+    def check_row(self, row):
+        """Raise BadItem(index) of the first element of the row that is no item, if there is one."""
+        for index, item in enumerate(row):
+            if not self.has_item(item):
+                raise BadItem(index)
+
+    def start_state(self):
+        """Return the state before all items: the start values and 1."""
+        return [start for name, start in self.registers] + [Ratio(1, 1)]
+
+    def step(self, item):
+        """Return the step of an item. What no row of the text tells anew stays as it is."""
         kind, numbers = item
-        fresh = list(values)
+        size = len(self.registers) + 1
+        step = [unit(size, at) for at in range(size)]
         for at, terms in self.updates[kind]:
-            fresh[at] = sum_value(terms, values, numbers)
-        return fresh
+            step[at] = sum_form(terms, size, numbers)
+        return step
+
+    def state_after(self, row):
+        """Return the state after a row. Raise BadItem(index)."""
+        self.check_row(row)
+        state = self.start_state()
+        for item in row:
+            state = stepped(self.step(item), state)
+        return state
+
+    def final_form(self):
+        """Return the form whose value for a state is the result."""
+        return sum_form(self.final, len(self.registers) + 1, ())
 
 
 def _is_field_value(value):
     """Return True if the value, which may be any value, can stand in an item, otherwise False."""
-    return isinstance(value, int) and not isinstance(value, bool) and -_MOST_VALUE <= value <= _MOST_VALUE
+    return is_integer(value) and -_MOST_VALUE <= value <= _MOST_VALUE

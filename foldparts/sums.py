@@ -1,4 +1,4 @@
-"""Sums of terms: the reader of their text form, and their values.
+"""Sums of terms: the reader and the writer of their text form, and their forms over states.
 
 A term is a tuple (at, fields, coefficient): at is the number of its register, or how many
 registers there are if it has none, and fields is a tuple of the numbers of its fields.
@@ -81,13 +81,32 @@ def _read_term(sign, text, table):
     return (product, -coefficient if sign == "-" else coefficient)
 
 
-def sum_value(terms, values, numbers):
-    """Return the value of a sum for these values of the registers and these numbers in the fields."""
-    factors = [*values, Ratio(1, 1)]
-    total = Ratio(0, 1)
+def write_sum(products, coefficients):
+    """Return the text of the sum of some products, in the order of a sum, each one with its coefficient."""
+    text = ""
+    for product, coefficient in zip(products, coefficients):
+        if coefficient.top > 0:
+            text = text + (" + " if text != "" else "") + _term_text(coefficient, product)
+        elif coefficient.top < 0:
+            text = text + (" - " if text != "" else "-") + _term_text(-coefficient, product)
+    return text if text != "" else "0"
+
+
+def _term_text(coefficient, product):
+    """Return the text of a term without its sign."""
+    if product == "":
+        return str(coefficient)
+    if coefficient == Ratio(1, 1):
+        return product
+    return str(coefficient) + "*" + product
+
+
+def sum_form(terms, size, numbers):
+    """Return the form of a sum over states of this size, for these numbers in the fields."""
+    form = [Ratio(0, 1)] * size
     for at, fields, coefficient in terms:
         product = 1
         for field in fields:
             product = product * numbers[field]
-        total = total + coefficient * Ratio(product, 1) * factors[at]
-    return total
+        form[at] = form[at] + coefficient * Ratio(product, 1)
+    return form

@@ -2,9 +2,10 @@
 
 import ast
 import unittest
+from inspect import signature
 from pathlib import Path
 
-from foldparts import errors, folds, ratios
+from foldparts import alike, errors, folds, order, ratios, width
 
 PACKAGE = Path(__file__).resolve().parent.parent / "foldparts"
 
@@ -17,6 +18,12 @@ METHODS = [
     (ratios.Ratio, ["__init__", "__add__", "__sub__", "__mul__", "__neg__", "__eq__", "__ne__", "__str__", "parse", "inverse",
                     "is_less"]),
     (folds.Fold, ["__call__", "__eq__", "__ne__", "__str__", "parse", "registers_after", "test_items"]),
+]
+
+FUNCTIONS = [
+    (alike, {"difference": ["first", "second"]}),
+    (width, {"tails": ["fold"], "heads": ["fold"], "kept": ["fold", "row"], "narrowest": ["fold"]}),
+    (order, {"order_example": ["fold"], "is_order_example": ["fold", "value"]}),
 ]
 
 
@@ -35,7 +42,14 @@ class Interface(unittest.TestCase):
         for one, names in METHODS:
             for name in names:
                 self.assertIn(name, vars(one))
+        for one in (ratios.Ratio, folds.Fold):
             self.assertIsInstance(vars(one)["parse"], classmethod)
+
+    def test_functions_stand_in_their_files(self):
+        for module, functions in FUNCTIONS:
+            for name, arguments in functions.items():
+                self.assertEqual(getattr(module, name).__module__, module.__name__)
+                self.assertEqual(list(signature(getattr(module, name)).parameters), arguments)
 
 
 class Form(unittest.TestCase):
@@ -61,7 +75,11 @@ class Form(unittest.TestCase):
                 if isinstance(node, ast.ImportFrom):
                     names = [alias.name for alias in node.names]
                     self.assertEqual(node.level, 0, path)
-                    self.assertTrue(node.module.startswith("foldparts.") or (node.module, names) == ("math", ["gcd"]), path)
+                    self.assertTrue(node.module.startswith("foldparts.") or node.module == "math", path)
+                    if node.module == "math":
+                        self.assertLessEqual(set(names), {"gcd", "lcm"})
+                    for alias in node.names:
+                        self.assertIsNone(alias.asname)
 
     def test_no_floats_and_no_true_division(self):
         for path, tree in trees().items():
