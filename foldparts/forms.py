@@ -1,7 +1,8 @@
-"""Linear forms and what items do to them.
+"""Linear forms, and what items do to them.
 
-A state is the list of the values of some registers, with a 1 behind them. A form is a list of as many Ratios; its
-value for a state is the sum of the products. A step is a list of forms, one for each place of the state behind it.
+A state is a list of Ratios; that of a fold is the list of the values of its registers, with a 1 behind them. A form is
+a list of as many Ratios; its value for a state is the sum of the products. A step is a list of forms: their values are
+the state behind it.
 """
 
 from foldparts.ratios import Ratio

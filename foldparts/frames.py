@@ -44,13 +44,13 @@ def _found_tails(walk):
     # All other states that come up are combinations of these.
     reached = [states[0] for row, states in pairs]
 
-    def values(form):
+    def vector(form):
         return [dot(form, state) for state in reached]
 
     span = Span(len(reached))
     # A constant can be added for nothing.
     span.take([Ratio(1, 1)] * len(reached))
-    return search_ahead(walk, span, values)
+    return search_ahead(walk, span, vector)
 
 
 def _found_heads(walk, forms):

@@ -31,9 +31,11 @@ def narrowest(fold):
     rows = ["fold " + fold.name]
     for name, value in zip(names, frame.view(frame.walk.start)[1:]):
         rows.append("  start " + name + " = " + str(value))
+    rules = _rules(frame)
     for kind, fields in fold.kinds:
         rows.append(" ".join(["  item", kind, *fields]))
-        rows.extend(_update_rows(frame, kind, names, list(product_table(names, fields))))
+        chosen = [rule for item, rule in rules if item[0] == kind]
+        rows.extend(_update_rows(chosen, names, list(product_table(names, fields))))
     # The first tail, if there is one, is the empty row, so its kept number is the result.
     rows.append("  result " + (str(fold([])) if names == [] else names[0]))
     rows.append("end")
@@ -46,12 +48,27 @@ def _free_names(fold):
     return [letter for letter in "abcdefghijklmnopqrstuvwxyz" if letter not in taken]
 
 
-def _update_rows(frame, kind, names, products):
+def _rules(frame):
+    """Return the list of the pairs (test item, its rules).
+
+    An item has a rule for each kept number behind it: the list of its weights in the view in front of it.
+    """
+    span = Span(len(frame.forms))
+    for column in transposed(frame.views()):
+        span.take(column)
+    rules = []
+    for item, step in frame.walk.steps:
+        columns = [stepped(frame.states, form_before(step, form)) for form in frame.forms[1:]]
+        rules.append((item, [span.weights(column) for column in columns]))
+    return rules
+
+
+def _update_rows(rules, names, products):
     """Return the list of the rows below the row of a kind of the narrowest fold.
 
-    names are those of its registers, products what its sums have in their terms, in order.
+    The rules are those of the test items of the kind, in order; names are those of the registers, and products what
+    the terms of its sums may have, in order.
     """
-    rules = [_rules(frame, step) for item, step in frame.walk.steps if item[0] == kind]
     rows = []
     for at, name in enumerate(names):
         coefficients = []
@@ -62,11 +79,3 @@ def _update_rows(frame, kind, names, products):
         if text != name:
             rows.append("    " + name + " = " + text)
     return rows
-
-
-def _rules(frame, step):
-    """Return for each kept number after a step its rule: the list of its weights in the view before it."""
-    span = Span(len(frame.forms))
-    for column in transposed(frame.views()):
-        span.take(column)
-    return [span.weights(stepped(frame.states, form_before(step, form))) for form in frame.forms[1:]]

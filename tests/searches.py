@@ -46,7 +46,11 @@ MOMENT = "\n".join([
     "fold moment", "  start p = 1", "  start t = 0", "  item x f g", "    p = p + f", "    t = p*g + t", "  item cut",
     "    t = 1/2*t", "  result t", "end",
 ])
-EXAMPLES = [AFFINE, TURNS, SWAP, DELAY, LATE, PRODUCT, VARIANCE, IDLE, SOME, CONSTANT, PAIRS, MOMENT]
+TRIPLES = "\n".join([
+    "fold triples", "  start a = 0", "  start b = 0", "  start c = 0", "  item x v", "    a = a + v", "    b = a*v + b",
+    "    c = b*v + c", "  result c", "end",
+])
+EXAMPLES = [AFFINE, TURNS, SWAP, DELAY, LATE, PRODUCT, VARIANCE, IDLE, SOME, CONSTANT, PAIRS, MOMENT, TRIPLES]
 
 
 def fraction_of(ratio):
@@ -161,6 +165,26 @@ def small_sketch(source, most_items, most_registers=3):
     if names and source.randrange(8):
         final[(names[0], ())] = Fraction(1)
     return Sketch("small", starts, kinds, final)
+
+
+def commuting_sketch(source):
+    """A random sketch whose order does not matter: each register is a sum, or a product, over the items."""
+    names = ["s", "t", "u"][:source.randrange(1, 4)]
+    are_sums = {name: source.randrange(2) for name in names}
+    kinds = []
+    for kind in ["x", "y", "z"][:source.randrange(1, 4)]:
+        fields = ["f", "g"][:source.randrange(3)]
+        updates = {}
+        for name in names:
+            parts = {key[1]: number for key, number in sparse_terms(source, [], fields).items()}
+            if are_sums[name]:
+                updates[name] = {(name, ()): Fraction(1), **{("", chosen): number for chosen, number in parts.items()}}
+            else:
+                updates[name] = {(name, chosen): number for chosen, number in parts.items()}
+        kinds.append((kind, fields, updates))
+    starts = [(name, Fraction(source.randrange(1, 4), 2)) for name in names]
+    final = {("", ()): random_fraction(source), **{(name, ()): Fraction(source.randrange(1, 5), 3) for name in names}}
+    return Sketch("calm", starts, kinds, final)
 
 
 def sparse_terms(source, names, fields):

@@ -5,7 +5,7 @@ import unittest
 from inspect import signature
 from pathlib import Path
 
-from foldparts import alike, errors, folds, order, ratios, width
+from foldparts import alike, back, bag, board, errors, folds, order, pieces, ratios, width
 
 PACKAGE = Path(__file__).resolve().parent.parent / "foldparts"
 
@@ -18,12 +18,27 @@ METHODS = [
     (ratios.Ratio, ["__init__", "__add__", "__sub__", "__mul__", "__neg__", "__eq__", "__ne__", "__str__", "parse", "inverse",
                     "is_less"]),
     (folds.Fold, ["__call__", "__eq__", "__ne__", "__str__", "parse", "registers_after", "test_items"]),
+    (pieces.Scheme, ["__init__", "contexts", "samples", "numbers", "joined", "outcome"]),
+    (board.Board, ["__init__", "put", "withdraw", "settle", "pieces", "gaps", "numbers_of", "result"]),
+    (bag.Bag, ["__init__", "put", "put_item", "take_out", "held", "result"]),
+]
+
+CLASSES = {"foldparts.ratios": ratios.Ratio, "foldparts.folds": folds.Fold, "foldparts.pieces": pieces.Scheme,
+           "foldparts.board": board.Board, "foldparts.bag": bag.Bag}
+
+ARGUMENTS = [
+    (pieces.Scheme, ["fold"]), (pieces.Scheme.numbers, ["self", "row"]), (pieces.Scheme.joined, ["self", "first", "second"]),
+    (pieces.Scheme.outcome, ["self", "numbers"]), (board.Board, ["scheme", "places"]),
+    (board.Board.put, ["self", "start", "end", "numbers"]), (board.Board.withdraw, ["self", "start", "end"]),
+    (board.Board.settle, ["self", "start", "items"]), (board.Board.numbers_of, ["self", "start", "end"]), (bag.Bag, ["scheme"]),
+    (bag.Bag.put, ["self", "numbers"]), (bag.Bag.put_item, ["self", "item"]), (bag.Bag.take_out, ["self", "item"]),
 ]
 
 FUNCTIONS = [
     (alike, {"difference": ["first", "second"]}),
     (width, {"tails": ["fold"], "heads": ["fold"], "kept": ["fold", "row"], "narrowest": ["fold"]}),
     (order, {"order_example": ["fold"], "is_order_example": ["fold", "value"]}),
+    (back, {"back_table": ["fold", "item"], "obstacle": ["fold", "item"], "is_obstacle": ["fold", "item", "value"]}),
 ]
 
 
@@ -35,8 +50,8 @@ class Interface(unittest.TestCase):
     def test_classes_stand_in_their_files(self):
         for name in ["PartError", *ERRORS]:
             self.assertEqual(getattr(errors, name).__module__, "foldparts.errors")
-        self.assertEqual(ratios.Ratio.__module__, "foldparts.ratios")
-        self.assertEqual(folds.Fold.__module__, "foldparts.folds")
+        for name, one in CLASSES.items():
+            self.assertEqual(one.__module__, name)
 
     def test_methods_stand_in_their_classes(self):
         for one, names in METHODS:
@@ -50,6 +65,10 @@ class Interface(unittest.TestCase):
             for name, arguments in functions.items():
                 self.assertEqual(getattr(module, name).__module__, module.__name__)
                 self.assertEqual(list(signature(getattr(module, name)).parameters), arguments)
+
+    def test_arguments(self):
+        for called, arguments in ARGUMENTS:
+            self.assertEqual(list(signature(called).parameters), arguments)
 
 
 class Form(unittest.TestCase):

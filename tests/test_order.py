@@ -10,7 +10,7 @@ from foldparts.order import is_order_example, order_example
 from foldparts.ratios import Ratio
 from reference import FULL, MEAN, SMALL, random_sketch
 from searches import (
-    AFFINE, CONSTANT, DELAY, IDLE, LATE, MOMENT, PAIRS, PRODUCT, SWAP, TURNS, VARIANCE, Results, any_row, items_of, rows_up_to,
+    AFFINE, CONSTANT, DELAY, IDLE, LATE, MOMENT, PAIRS, PRODUCT, SWAP, TRIPLES, TURNS, VARIANCE, Results, any_row, items_of, rows_up_to,
     small_sketch,
 )
 from test_width import nested, no_items
@@ -71,7 +71,7 @@ class OrderExample(unittest.TestCase):
         return found
 
     def test_it_does_not_matter(self):
-        for text in [MEAN, SMALL, VARIANCE, PRODUCT, CONSTANT, IDLE, SWAP]:
+        for text in [MEAN, SMALL, VARIANCE, PRODUCT, CONSTANT, IDLE, SWAP, TRIPLES]:
             self.assertIsNone(order_example(Fold.parse(text)), text)
         for text in [
             "fold f\n  start p = 3\n  item x v w\n    p = p*v*w\n  item y v\n    p = p + 2*p*v\n  result p\nend",

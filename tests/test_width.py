@@ -11,14 +11,14 @@ from foldparts.ratios import Ratio
 from foldparts.width import heads, kept, narrowest, tails
 from reference import FULL, MEAN, SMALL, WORDS, random_sketch
 from searches import (
-    AFFINE, CONSTANT, DELAY, EXAMPLES, IDLE, LATE, MOMENT, PAIRS, PRODUCT, SOME, SWAP, TURNS, VARIANCE, Basis, Results, any_row,
+    AFFINE, CONSTANT, DELAY, EXAMPLES, IDLE, LATE, MOMENT, PAIRS, PRODUCT, SOME, SWAP, TRIPLES, TURNS, VARIANCE, Basis, Results, any_row,
     fold_and_results, fraction_of, items_of, ratio_of, rows_up_to, search_heads, search_tails, sketch_of, small_sketch, texts,
 )
 from test_alike import renamed, reversed_registers, scaled, with_idle_register
 
 WIDTHS = [
     (MEAN, 1), (SMALL, 0), (AFFINE, 1), (TURNS, 2), (SWAP, 2), (DELAY, 3), (LATE, 3), (PRODUCT, 1), (VARIANCE, 1), (IDLE, 0),
-    (SOME, 1), (CONSTANT, 0), (PAIRS, 2), (MOMENT, 2),
+    (SOME, 1), (CONSTANT, 0), (PAIRS, 2), (MOMENT, 2), (TRIPLES, 3),
 ]
 
 NO_ITEMS = [
