@@ -33,9 +33,10 @@ class Bag:
         """Take out an item. Raise BadItem(0), and Stuck(obstacle) if it cannot be taken back."""
         self.scheme.fold.check_row([item])
         frame = self.scheme.frame
-        back = table_in(frame, item)
+        step = self.scheme.fold.step(item)
+        back = table_in(frame, step)
         if back is None:
-            raise Stuck(obstacle_in(frame, item))
+            raise Stuck(obstacle_in(frame, step))
         # As the order does not matter, the item can be taken for the last one of what is held. So each row of the
         # table is a view with the item at the end, from which the rules lead to the view without it.
         rules = [unit(len(frame.forms), 0), *back]

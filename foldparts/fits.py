@@ -1,4 +1,4 @@
-"""The polynomial in the fields of a kind that has given values for the test items."""
+"""Polynomials in the fields of a kind, and their values for the test items."""
 
 from foldparts.ratios import Ratio
 
@@ -27,3 +27,18 @@ def fitted(values):
             total = total + Ratio(factor, 2) * value
         coefficients.append(total)
     return coefficients
+
+
+def shares(values):
+    """Return the list of the weights, integers, of the values for the test items in that for an item.
+
+    values are those of the item's fields. Every polynomial of the form above has its value there by these weights.
+    """
+    if len(values) == 0:
+        return [1]
+    if len(values) == 1:
+        only = values[0]
+        return [(only - 1) * (only - 2) // 2, only * (2 - only), only * (only - 1) // 2]
+    f, g = values
+    rest = 2 - f - g
+    return [rest * (rest - 1) // 2, g * rest, g * (g - 1) // 2, f * rest, f * g, f * (f - 1) // 2]

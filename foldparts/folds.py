@@ -1,13 +1,10 @@
 """Folds: what they are, and their results for rows of items."""
 
-from foldparts.checks import is_integer
+from foldparts.checks import check_row, is_item
 from foldparts.drafts import read_draft
-from foldparts.errors import BadItem
 from foldparts.forms import dot, stepped, unit
 from foldparts.ratios import Ratio
 from foldparts.sums import sum_form
-
-_MOST_VALUE = 1000
 
 # The values of the test items, by the number of fields.
 _TEST_VALUES = (
@@ -57,19 +54,11 @@ class Fold:
 
     def has_item(self, item):
         """Return True if item, which may be any value, is an item of the fold, otherwise False."""
-        if not isinstance(item, tuple) or len(item) != 2:
-            return False
-        kind, values = item
-        if not isinstance(values, tuple):
-            return False
-        many = [len(fields) for name, fields in self.kinds if name == kind]
-        return many == [len(values)] and all([_is_field_value(value) for value in values])
+        return is_item(self.kinds, item)
 
     def check_row(self, row):
         """Raise BadItem(index) of the first element of the row that is no item, if there is one."""
-        for index, item in enumerate(row):
-            if not self.has_item(item):
-                raise BadItem(index)
+        check_row(self.kinds, row)
 
     def start_state(self):
         """Return the state before all items: the start values and 1."""
@@ -95,8 +84,3 @@ class Fold:
     def final_form(self):
         """Return the form whose value for a state is the result."""
         return sum_form(self.final, len(self.registers) + 1, ())
-
-
-def _is_field_value(value):
-    """Return True if the value, which may be any value, can stand in an item, otherwise False."""
-    return is_integer(value) and -_MOST_VALUE <= value <= _MOST_VALUE

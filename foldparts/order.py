@@ -2,6 +2,7 @@
 
 from foldparts.forms import dot, form_before, stepped
 from foldparts.frames import Frame
+from foldparts.walks import walk_of
 
 
 def order_example(fold):
@@ -9,7 +10,7 @@ def order_example(fold):
 
     u and v are rows of at most three test items, a and b are test items.
     """
-    frame = Frame(fold)
+    frame = Frame(walk_of(fold))
     for back, form in zip(frame.tails, frame.forms[1:]):
         ahead = [(item, form_before(step, form)) for item, step in frame.walk.steps]
         for front, state in zip(frame.heads, frame.states):

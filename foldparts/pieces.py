@@ -2,10 +2,10 @@
 
 from foldparts.errors import WrongCount
 from foldparts.forms import composed, dot, stepped, unit
-from foldparts.frames import Frame
+from foldparts.frames import Frame, inverse_of
 from foldparts.ratios import Ratio
 from foldparts.spans import Span
-from foldparts.walks import search_behind
+from foldparts.walks import search_behind, walk_of
 
 
 class Scheme:
@@ -18,11 +18,11 @@ class Scheme:
 
     def __init__(self, fold):
         self.fold = fold
-        self.frame = Frame(fold)
+        self.frame = Frame(walk_of(fold))
         self._sample_rows, tables = _found_samples(self.frame)
         self._spots, self._rules = _found_contexts(tables)
         self.size = len(self._spots)
-        self._inverse = _inverse(self.frame.views())
+        self._inverse = inverse_of(self.frame.views())
 
     @property
     def contexts(self):
@@ -110,11 +110,3 @@ def _rule(span, taken, spot, column):
     if spot in taken:
         return unit(len(taken), taken.index(spot))
     return span.weights(column)
-
-
-def _inverse(views):
-    """Return the table with which the views of the heads are composed to a table of units."""
-    span = Span(len(views))
-    for view in views:
-        span.take(view)
-    return [span.weights(unit(len(views), place)) for place in range(len(views))]
