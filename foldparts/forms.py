@@ -10,12 +10,14 @@ from foldparts.ratios import Ratio
 
 def dot(form, state):
     """Return the value of a form for a state."""
-    total = Ratio(0, 1)
+    top, bottom = 0, 1
     for factor, value in zip(form, state):
         # Most forms of a step have few factors other than 0.
         if factor.top != 0:
-            total = total + factor * value
-    return total
+            other = factor.bottom * value.bottom
+            top = top * other + factor.top * value.top * bottom
+            bottom = bottom * other
+    return Ratio(top, bottom)
 
 
 def unit(size, place):
