@@ -1,6 +1,6 @@
 """Boards: where the pieces of one row are put together."""
 
-from foldparts.checks import is_integer
+from foldparts.checks import copied, is_integer
 from foldparts.errors import BadPlaces, Disputed, Missing, Overlap, UnknownPiece
 
 
@@ -91,7 +91,7 @@ class Board:
     def _check_places(self, start, end):
         """Raise BadPlaces(start, end) unless these are integers with 0 <= start <= end <= places."""
         if not is_integer(start) or not is_integer(end) or not 0 <= start <= end <= self.places:
-            raise BadPlaces(start, end)
+            raise BadPlaces(copied(start), copied(end))
 
     def _check_piece(self, start, end):
         """Raise UnknownPiece(start, end) unless there is a piece on just these places."""

@@ -5,7 +5,9 @@ import unittest
 from inspect import signature
 from pathlib import Path
 
-from foldparts import alike, back, bag, board, errors, folds, order, pieces, ratios, width
+from foldparts import (
+    alike, back, bag, board, compared, errors, folds, formulas, gauges, learners, order, pieces, ratios, relations, repeats, tables, width,
+)
 
 PACKAGE = Path(__file__).resolve().parent.parent / "foldparts"
 
@@ -21,10 +23,16 @@ METHODS = [
     (pieces.Scheme, ["__init__", "contexts", "samples", "numbers", "joined", "outcome"]),
     (board.Board, ["__init__", "put", "withdraw", "settle", "pieces", "gaps", "numbers_of", "result"]),
     (bag.Bag, ["__init__", "put", "put_item", "take_out", "held", "result"]),
+    (formulas.Formula, ["__init__", "__call__", "__add__", "__sub__", "__neg__", "__mul__", "mirrored", "running", "summed", "ahead",
+                        "behind", "only"]),
+    (tables.RowTable, ["__init__", "tail_pairs", "head_rows", "separators", "kept", "weights"]),
+    (gauges.Gauge, ["__init__", "__len__", "so_far", "told", "weights", "push", "push_row", "told_after", "mark", "back", "fork", "parted"]),
+    (learners.Learner, ["__init__", "guess", "asked", "object"]),
 ]
 
 CLASSES = {"foldparts.ratios": ratios.Ratio, "foldparts.folds": folds.Fold, "foldparts.pieces": pieces.Scheme,
-           "foldparts.board": board.Board, "foldparts.bag": bag.Bag}
+           "foldparts.board": board.Board, "foldparts.bag": bag.Bag, "foldparts.formulas": formulas.Formula,
+           "foldparts.tables": tables.RowTable, "foldparts.gauges": gauges.Gauge, "foldparts.learners": learners.Learner}
 
 ARGUMENTS = [
     (pieces.Scheme, ["fold"]), (pieces.Scheme.numbers, ["self", "row"]), (pieces.Scheme.joined, ["self", "first", "second"]),
@@ -32,6 +40,13 @@ ARGUMENTS = [
     (board.Board.put, ["self", "start", "end", "numbers"]), (board.Board.withdraw, ["self", "start", "end"]),
     (board.Board.settle, ["self", "start", "items"]), (board.Board.numbers_of, ["self", "start", "end"]), (bag.Bag, ["scheme"]),
     (bag.Bag.put, ["self", "numbers"]), (bag.Bag.put_item, ["self", "item"]), (bag.Bag.take_out, ["self", "item"]),
+    (formulas.Formula, ["fold"]), (formulas.Formula.__call__, ["self", "row"]), (formulas.Formula.mirrored, ["self"]),
+    (formulas.Formula.running, ["self"]), (formulas.Formula.summed, ["self"]), (formulas.Formula.ahead, ["self", "front"]),
+    (formulas.Formula.behind, ["self", "back"]), (formulas.Formula.only, ["self", "names"]), (tables.RowTable, ["formulas"]),
+    (tables.RowTable.kept, ["self", "row"]), (tables.RowTable.weights, ["self", "row"]), (gauges.Gauge, ["table"]),
+    (gauges.Gauge.push, ["self", "item"]), (gauges.Gauge.push_row, ["self", "row"]), (gauges.Gauge.told_after, ["self", "row"]),
+    (gauges.Gauge.back, ["self", "number"]), (gauges.Gauge.parted, ["self", "other"]),
+    (learners.Learner, ["teacher", "pattern", "most"]), (learners.Learner.object, ["self", "row"]),
 ]
 
 FUNCTIONS = [
@@ -39,6 +54,10 @@ FUNCTIONS = [
     (width, {"tails": ["fold"], "heads": ["fold"], "kept": ["fold", "row"], "narrowest": ["fold"]}),
     (order, {"order_example": ["fold"], "is_order_example": ["fold", "value"]}),
     (back, {"back_table": ["fold", "item"], "obstacle": ["fold", "item"], "is_obstacle": ["fold", "item", "value"]}),
+    (formulas, {"item_weights": ["kinds", "item"]}),
+    (compared, {"parting_row": ["first", "second"], "width_of": ["formula"], "narrowest_of": ["formula"]}),
+    (relations, {"relations": ["formulas"], "witnesses": ["formulas"], "splitters": ["formulas"]}),
+    (repeats, {"recursion": ["formula", "front", "piece", "back"]}),
 ]
 
 
