@@ -103,7 +103,8 @@ def _term_text(coefficient, product):
 
 def sum_form(terms, size, numbers):
     """Return the form of a sum over states of this size, for these numbers in the fields."""
-    form = [Ratio(0, 1)] * size
+    # Not written as a product: the operators of Formula come here, so the list must plainly be a new one.
+    form = [Ratio(0, 1) for place in range(size)]
     for at, fields, coefficient in terms:
         product = 1
         for field in fields:
